@@ -1,6 +1,7 @@
 package tests
 
 import (
+	"iter"
 	"maps"
 	"math"
 	"math/rand/v2"
@@ -808,23 +809,37 @@ func TestExprReadWords(t *testing.T) {
 	}
 }
 
+// byteTurned are all texts that have a byte more than one, one fewer, or another one in its place, and its beginnings
+// and ends.
+func byteTurned(text string) iter.Seq[string] {
+	return func(yield func(string) bool) {
+		for i := range len(text) + 1 {
+			others := []string{text[:i], text[i:]}
+			if i < len(text) {
+				others = append(others, text[:i]+text[i+1:])
+			}
+			for b := range 256 {
+				one := string([]byte{byte(b)})
+				others = append(others, text[:i]+one+text[i:])
+				if i < len(text) {
+					others = append(others, text[:i]+one+text[i+1:])
+				}
+			}
+			for _, other := range others {
+				if !yield(other) {
+					return
+				}
+			}
+		}
+	}
+}
+
 // Texts with a byte more, one fewer, or another one in its place.
 func TestExprReadByteTurned(t *testing.T) {
 	for _, text := range []string{"-1000000", "1000000", "v0", "not i3", "add 10 -2", "less mul v0 o1 and 3 4", "or 1 same i5 -7", wantText(part(10, tree(7))), wantText(nots(5, num(1)))} {
 		checkExprRead(t, text)
-		for i := range len(text) + 1 {
-			for b := range 256 {
-				more := string([]byte{byte(b)})
-				checkExprRead(t, text[:i]+more+text[i:])
-				if i < len(text) {
-					checkExprRead(t, text[:i]+more+text[i+1:])
-				}
-			}
-			if i < len(text) {
-				checkExprRead(t, text[:i]+text[i+1:])
-			}
-			checkExprRead(t, text[:i])
-			checkExprRead(t, text[i:])
+		for other := range byteTurned(text) {
+			checkExprRead(t, other)
 		}
 	}
 }

@@ -643,12 +643,18 @@ func TestStmtsEndlessCounts(t *testing.T) {
 	}
 }
 
+// runList is a way to do a list: the memory behind it, how it ended, and how much fuel is left.
+type runList func(m impl.Mem, list []impl.Stmt, fuel int) (impl.Mem, int, int)
+
 // Fuel that is just enough, one too little, and more than enough, for a loop of every length.
-func TestStmtsFuel(t *testing.T) {
+func TestStmtsFuel(t *testing.T) { checkFuel(t, impl.StmtsRun) }
+
+func checkFuel(t *testing.T, run runList) {
+	t.Helper()
 	for times := range 103 {
 		list := stmts(while(below(v0, times), more(v0)), set(o5, num(77)))
 		for fuel := range 101 {
-			m, code, left := impl.StmtsRun(impl.MemOpen(), list, fuel)
+			m, code, left := run(impl.MemOpen(), list, fuel)
 			want := impl.MemOpen()
 			want.Var[0] = min(times, fuel+1)
 			wantCode, wantLeft := 1, 0
@@ -1114,19 +1120,8 @@ func TestStmtsReadByteTurned(t *testing.T) {
 		if !checkStmtsRead(t, text) {
 			t.Errorf("%q is not read", text)
 		}
-		for i := range len(text) + 1 {
-			for b := range 256 {
-				one := string([]byte{byte(b)})
-				checkStmtsRead(t, text[:i]+one+text[i:])
-				if i < len(text) {
-					checkStmtsRead(t, text[:i]+one+text[i+1:])
-				}
-			}
-			if i < len(text) {
-				checkStmtsRead(t, text[:i]+text[i+1:])
-			}
-			checkStmtsRead(t, text[:i])
-			checkStmtsRead(t, text[i:])
+		for other := range byteTurned(text) {
+			checkStmtsRead(t, other)
 		}
 	}
 }
@@ -1235,11 +1230,14 @@ func runsOf() map[string][]impl.Stmt {
 }
 
 // Writing into an answer turns no argument, and no other answer, and the other way round; spare room included.
-func TestStmtsRunAnswersAreNew(t *testing.T) {
+func TestStmtsRunAnswersAreNew(t *testing.T) { checkRunAnswersAreNew(t, impl.StmtsRun) }
+
+func checkRunAnswersAreNew(t *testing.T, run runList) {
+	t.Helper()
 	for name, list := range runsOf() {
 		m, all := roomy()
-		first, code, _ := impl.StmtsRun(m, list, 3)
-		again, _, _ := impl.StmtsRun(m, list, 3)
+		first, code, _ := run(m, list, 3)
+		again, _, _ := run(m, list, 3)
 		want, wantCode, _ := wantRun(m, list, 3)
 		if code != wantCode || !sameMem(first, want) || !sameMem(again, want) {
 			t.Fatalf("%s: %v, %v, not %v", name, first, again, want)
@@ -1258,10 +1256,13 @@ func TestStmtsRunAnswersAreNew(t *testing.T) {
 }
 
 // No two lists of one answer share memory, spare room included, not even of an argument whose lists are one.
-func TestStmtsRunListsApart(t *testing.T) {
+func TestStmtsRunListsApart(t *testing.T) { checkRunListsApart(t, impl.StmtsRun) }
+
+func checkRunListsApart(t *testing.T, run runList) {
+	t.Helper()
 	for name, list := range runsOf() {
 		one := []int{1, 2, 3, 4, 5, 6}
-		m, _, _ := impl.StmtsRun(impl.Mem{In: one, Out: one, Var: one}, list, 3)
+		m, _, _ := run(impl.Mem{In: one, Out: one, Var: one}, list, 3)
 		want, _, _ := wantRun(impl.Mem{In: one, Out: one, Var: one}, list, 3)
 		if !sameMem(m, want) || !slices.Equal(one, []int{1, 2, 3, 4, 5, 6}) {
 			t.Errorf("%s: %v, not %v, of %v", name, m, want, one)
