@@ -1059,8 +1059,8 @@ func TestNetEveryTwo(t *testing.T) {
 	}
 }
 
-// leavesOf are all numbers, and all bools, of a net's wires and drives, which must be its own.
-func leavesOf(n *impl.Net) []reflect.Value {
+// leavesOf are all numbers, and all bools, of what is pointed to, whose lists must be its own.
+func leavesOf(p any) []reflect.Value {
 	var out []reflect.Value
 	var walk func(v reflect.Value)
 	walk = func(v reflect.Value) {
@@ -1077,7 +1077,7 @@ func leavesOf(n *impl.Net) []reflect.Value {
 			out = append(out, v)
 		}
 	}
-	walk(reflect.ValueOf(n).Elem())
+	walk(reflect.ValueOf(p).Elem())
 	return out
 }
 
